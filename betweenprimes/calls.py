@@ -11,9 +11,18 @@ ROW = 7
 UNDER = 8
 OVER = 9
 INSIDE = 10
+PLACE = 11
+WHERE = 12
+PAIRS = 13
+LONG = 14
+FEWEST = 15
+ROUND = 16
+DEALT = 17
+DEALTTO = 18
+DEALTPAIRS = 19
+TOLD = 20
 
-# How many arguments each call has, by its number. Before a begin every call
-# is read and answered, so all are here, whichever are built.
+# How many arguments each call has, by its number.
 ARGUMENTS = (2, 0, 0, 2, 1, 1, 1, 1, 0, 0, 2, 2, 2, 1, 1, 1, 2, 1, 1, 0, 0)
 
 NOT_BEGUN = -11

@@ -1,8 +1,10 @@
 """Calls on one new object, handed in as one list and answered as one."""
 
-from betweenprimes.calls import ARGUMENTS, BEGIN, COLUMN, EXCHANGE, FOLD, FOLDEDALL, FOLDS
-from betweenprimes.calls import INSIDE, NEXT, NOT_BEGUN, OVER, ROW, UNDER
+from betweenprimes.calls import ARGUMENTS, BEGIN, COLUMN, EXCHANGE, FEWEST, FOLD, FOLDEDALL, FOLDS, INSIDE
+from betweenprimes.calls import LONG, NEXT, NOT_BEGUN, OVER, PAIRS, PLACE, ROUND, ROW, TOLD, UNDER, WHERE
+from betweenprimes.cards import card_answer
 from betweenprimes.folding import fold_answer
+from betweenprimes.ordering import order_answer
 from betweenprimes.points import point_answer
 from betweenprimes.session import Session
 
@@ -17,12 +19,15 @@ def call_answer(session, number, given):
         return session.exchange()
     if number == NEXT:
         return session.move_on()
+    if number == TOLD:
+        return session.told()
     if number in (FOLD, FOLDS, FOLDEDALL):
         return fold_answer(session.p, number, given)
     if number in (COLUMN, ROW, UNDER, OVER, INSIDE):
         return point_answer(session.p, session.q, number, given)
-    # A made-up answer would pass for a count: a call that isn't built fails loudly.
-    raise NotImplementedError(f"call {number} is not built")
+    if number in (PLACE, WHERE, PAIRS, LONG, FEWEST, ROUND):
+        return order_answer(session.p, number, given)
+    return card_answer(session.p, session.q, number, given)
 
 
 def answers(calls):

@@ -1,6 +1,7 @@
 """Multiples of a number by a prime, turned and folded."""
 
 from betweenprimes.calls import FOLD, FOLDS, REFUSED
+from betweenprimes.multiples import multiple, multiples_to
 from betweenprimes.primes import half
 
 
@@ -14,27 +15,22 @@ def folded(p, left):
     return p - left if is_turned(p, left) == 1 else left
 
 
-def multiples(p, a):
-    """What the multiples of a leave by p, from the first to the one at the half."""
-    return [k * a % p for k in range(1, half(p) + 1)]
-
-
 def fold(p, a, k):
     """The k-th multiple of a folded, then whether it's turned."""
     if k < 1 or k > half(p):
         return [REFUSED]
-    left = k * a % p
+    left = multiple(p, a, k)
     return [folded(p, left), is_turned(p, left)]
 
 
 def folds(p, a):
     """How many multiples of a are turned."""
-    return [sum([is_turned(p, left) for left in multiples(p, a)])]
+    return [sum([is_turned(p, left) for left in multiples_to(p, a, half(p))])]
 
 
 def folded_all(p, a):
     """How many multiples there are, then all of them folded."""
-    return [half(p)] + [folded(p, left) for left in multiples(p, a)]
+    return [half(p)] + [folded(p, left) for left in multiples_to(p, a, half(p))]
 
 
 def fold_answer(p, number, given):

@@ -23,12 +23,16 @@ class Session:
         self.q = q
         return [0]
 
+    def told(self):
+        """The two primes, p first."""
+        return [self.p, self.q]
+
     def exchange(self):
         """Let each prime be what the other one was."""
         former = self.p
         self.p = self.q
         self.q = former
-        return [self.p, self.q]
+        return self.told()
 
     def move_on(self):
         """Let q be the next prime above it that isn't p, if there is one."""

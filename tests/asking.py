@@ -52,3 +52,13 @@ def points(p, q):
     """All points, each with 1 if it's under the line, 2 if it's over it."""
     return {(x, y): 1 if y * p < x * q else 2
             for x in range(1, p // 2 + 1) for y in range(1, q // 2 + 1)}
+
+
+def remainders(p, a):
+    """What the multiples of a leave by p, from the first to the one before the p-th."""
+    return [a * k % p for k in range(1, p)]
+
+
+def the_other_way_round(numbers):
+    """How many pairs of these numbers have the greater one first."""
+    return sum(former > latter for at, latter in enumerate(numbers) for former in numbers[:at])

@@ -1,9 +1,9 @@
-"""Promise 1: begin, exchange, next."""
+"""Promise 1: begin, exchange, next, told."""
 
 import unittest
 
 from tests.asking import (BEGIN, COLUMN, EXCHANGE, FOLD, FOLDEDALL, FOLDS, GREAT, INSIDE, NEXT,
-                          OVER, PRIMES, ROW, UNDER, ask)
+                          OVER, PRIMES, ROW, TOLD, UNDER, ask, ask_of)
 
 
 class Begin(unittest.TestCase):
@@ -118,6 +118,38 @@ class Next(unittest.TestCase):
     def test_q_is_the_next_one_and_p_stays(self):
         self.assertEqual(ask((BEGIN, 7, 11), (NEXT,), (UNDER,), (ROW, 6), (FOLDEDALL, 1), (EXCHANGE,)),
                          [[0], [13], [9], [3], [3, 1, 2, 3], [13, 7]])
+
+
+class Told(unittest.TestCase):
+    def test_behind_begin(self):
+        for p in PRIMES:
+            for q in PRIMES:
+                if p != q:
+                    with self.subTest(p=p, q=q):
+                        self.assertEqual(ask_of(p, q, (TOLD,)), [[p, q]])
+
+    def test_behind_another_begin(self):
+        self.assertEqual(ask_of(3, 5, (TOLD,), (BEGIN, 199, 7), (TOLD,), (TOLD,)), [[3, 5], [0], [199, 7], [199, 7]])
+
+    def test_behind_a_refused_begin(self):
+        for refused in ((2, 13), (13, 2), (13, 13), (9, 13), (13, 9), (0, 13), (13, 211), (GREAT, 13), (11, 11)):
+            with self.subTest(refused=refused):
+                self.assertEqual(ask_of(7, 11, (BEGIN,) + refused, (TOLD,)), [[-22], [7, 11]])
+                self.assertEqual(ask((TOLD,), (BEGIN,) + refused, (TOLD,)), [[-11], [-22], [-11]])
+
+    def test_behind_exchange(self):
+        self.assertEqual(ask_of(7, 11, (EXCHANGE,), (TOLD,), (EXCHANGE,), (TOLD,)),
+                         [[11, 7], [11, 7], [7, 11], [7, 11]])
+
+    def test_behind_next(self):
+        self.assertEqual(ask_of(7, 11, (NEXT,), (TOLD,), (EXCHANGE,), (NEXT,), (TOLD,)),
+                         [[13], [7, 13], [13, 7], [11], [13, 11]])
+        self.assertEqual(ask_of(7, 5, (NEXT,), (TOLD,)), [[11], [7, 11]])
+
+    def test_behind_a_refused_next(self):
+        self.assertEqual(ask_of(3, 199, (NEXT,), (TOLD,)), [[-33], [3, 199]])
+        self.assertEqual(ask_of(199, 197, (NEXT,), (TOLD,), (EXCHANGE,), (NEXT,), (TOLD,)),
+                         [[-33], [199, 197], [197, 199], [-33], [197, 199]])
 
 
 if __name__ == "__main__":

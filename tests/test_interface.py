@@ -5,14 +5,24 @@ import io
 import unittest
 
 from betweenprimes.counting import answers
-from tests.asking import (BEGIN, COLUMN, EXCHANGE, FOLD, FOLDEDALL, FOLDS, GREAT, INSIDE, NEXT, OVER, ROW,
-                          UNDER, flat)
+from tests.asking import (BEGIN, COLUMN, DEALT, DEALTPAIRS, DEALTTO, EXCHANGE, FEWEST, FOLD, FOLDEDALL, FOLDS,
+                          GREAT, INSIDE, LONG, NEXT, OVER, PAIRS, PLACE, ROUND, ROW, TOLD, UNDER, WHERE, flat, split)
 
-CALLS = [(UNDER,), (BEGIN, 7, 11), (FOLD, 3, 2), (FOLDS, 11), (FOLDEDALL, GREAT), (COLUMN, 3), (ROW, 5),
-         (UNDER,), (OVER,), (INSIDE, 1, 2), (FOLD, 7, 1), (BEGIN, 9, 9), (NEXT,), (EXCHANGE,), (BEGIN, 3, 199),
-         (NEXT,)]
-TOLD = [1, -11, 1, 0, 2, 1, 1, 1, 2, 4, 3, 3, 1, 2, 1, 4, 1, 3, 1, 8, 1, 7, 1, 2, 1, -22, 1, -22, 1, 13,
-        2, 13, 7, 1, 0, 1, -33]
+# Every call, and every refusal, each with what is given back for it.
+ASKED = [
+    ((ROUND, 3, 2), [1, -11]), ((UNDER,), [1, -11]), ((BEGIN, 7, 11), [1, 0]), ((FOLD, 3, 2), [2, 1, 1]),
+    ((PLACE, 3, 2), [1, 6]), ((FOLDS, 11), [1, 2]), ((WHERE, 3, 2), [1, 3]),
+    ((FOLDEDALL, GREAT), [4, 3, 3, 1, 2]), ((PAIRS, GREAT), [1, 9]), ((COLUMN, 3), [1, 4]), ((LONG, 2), [2, 3, 2]),
+    ((ROW, 5), [1, 3]), ((FEWEST, 2), [1, 4]), ((UNDER,), [1, 8]), ((ROUND, 2, GREAT), [4, 3, 3, 6, 5]),
+    ((OVER,), [1, 7]), ((DEALT, 8), [1, 12]), ((INSIDE, 1, 2), [1, 2]), ((DEALTTO, 12), [1, 8]),
+    ((DEALTPAIRS,), [1, 1155]), ((TOLD,), [2, 7, 11]), ((FOLD, 7, 1), [1, -22]), ((PLACE, 1, 7), [1, -22]),
+    ((WHERE, 1, 0), [1, -22]), ((ROUND, 1, 14), [1, -22]), ((DEALT, 77), [1, -22]), ((DEALTTO, 77), [1, -22]),
+    ((PAIRS, 0), [1, -22]), ((LONG, 7), [1, -22]), ((FEWEST, 14), [1, -22]), ((BEGIN, 9, 9), [1, -22]),
+    ((NEXT,), [1, 13]), ((DEALT, 77), [1, 11]), ((EXCHANGE,), [2, 13, 7]), ((PLACE, 1, 7), [1, 7]),
+    ((LONG, 7), [2, 12, 1]), ((TOLD,), [2, 13, 7]), ((BEGIN, 3, 199), [1, 0]), ((NEXT,), [1, -33]),
+    ((TOLD,), [2, 3, 199])]
+CALLS = [call for call, _ in ASKED]
+GIVEN_BACK = [number for _, told in ASKED for number in told]
 
 
 class Untouched(list):
@@ -27,7 +37,10 @@ class Untouched(list):
 
 class Interface(unittest.TestCase):
     def test_answers_one_behind_another(self):
-        self.assertEqual(answers(flat(CALLS)), TOLD)
+        self.assertEqual(answers(flat(CALLS)), GIVEN_BACK)
+
+    def test_every_call_is_among_them(self):
+        self.assertEqual({call[0] for call in CALLS}, set(range(21)))
 
     def test_each_call_alone(self):
         self.assertEqual(answers([0, 3, 5]), [1, 0])
@@ -46,7 +59,7 @@ class Interface(unittest.TestCase):
         told = answers(handed)
         self.assertEqual(handed, before)
         self.assertIsNot(told, handed)
-        self.assertEqual(answers(Untouched(handed)), TOLD)
+        self.assertEqual(answers(Untouched(handed)), GIVEN_BACK)
 
     def test_asked_twice_it_answers_the_same(self):
         handed = flat(CALLS)
@@ -70,6 +83,28 @@ class Interface(unittest.TestCase):
         self.assertEqual(len(told), 2 + 59 * 101)
         self.assertEqual(told[2:103] * 59, told[2:])
         self.assertEqual(told[2:4], [100, 99])
+
+    def test_sixty_calls_of_all_kinds(self):
+        kinds = [(TOLD,), (UNDER,), (OVER,), (DEALTPAIRS,), (FOLD, 2, 1), (FOLDS, 2), (FOLDEDALL, 2), (COLUMN, 1),
+                 (ROW, 1), (INSIDE, 1, 1), (PLACE, 2, 1), (WHERE, 2, 1), (PAIRS, 2), (LONG, 2), (FEWEST, 2),
+                 (ROUND, 2, 1), (DEALT, 1), (DEALTTO, 1)]
+        calls = [(BEGIN, 199, 197)] + kinds + [(EXCHANGE,)] + kinds + [(EXCHANGE,)] + kinds + [
+            (NEXT,), (TOLD,), (BEGIN, 3, 3)]
+        self.assertEqual(len(calls), 60)
+        told = split(answers(flat(calls)))
+        self.assertEqual(len(told), 60)
+        self.assertEqual(told[1:19], told[39:57])
+        for at in range(20, 38):
+            alone = split(answers(flat([(BEGIN, 197, 199), calls[at]])))
+            self.assertEqual(told[at], alone[1])
+        self.assertEqual([told[0], told[1], told[19], told[38]] + told[57:],
+                         [[0], [199, 197], [197, 199], [199, 197], [-33], [199, 197], [-22]])
+
+    def test_sixty_times_the_longest_way(self):
+        self.assertEqual(answers([BEGIN, 199, 197] + [PAIRS, 198] * 59), [1, 0] + [1, 198 * 197 // 2] * 59)
+        told = answers([BEGIN, 199, 197] + [ROUND, 3, GREAT] * 59)
+        self.assertEqual(len(told), 2 + 59 * 200)
+        self.assertEqual(told[2:202] * 59, told[2:])
 
     def test_nothing_is_printed(self):
         out, err = io.StringIO(), io.StringIO()
